@@ -2,11 +2,7 @@
 
 import unittest
 
-from helper import K, E, ask
-from whatmustbe.certain import wrong_nodes
-from whatmustbe.following import bad_ones
-
-EVERYBODY = [8, 1, 2, 3, 4, 5, 6, 7, 8]
+from helper import K, E, EVERYBODY, ask
 
 
 class Case(unittest.TestCase):
@@ -151,54 +147,6 @@ class TestTheFarEnd(Case):
         self.can_be(*rules, ("kind", 1, 1))
         self.can_be(*rules, ("neverrole", 2, 3), ("kind", 1, 1))
         self.cannot_be(*rules, ("never", K(1), E(3)), ("kind", 1, 1))
-
-
-class TestBadOnes(unittest.TestCase):
-    """Which basic ones are bad: kinds first, rising, then directions, rising."""
-
-    def test_none_where_nothing_is_forbidden(self):
-        self.assertEqual(bad_ones([]), [])
-        self.assertEqual(bad_ones([("sub", K(1), E(2)), ("role", 2, 3), ("never", K(1), K(2))]), [])
-
-    def test_one_twice(self):
-        self.assertEqual(bad_ones([("never", K(6), K(6)), ("never", K(1), K(1))]), [K(1), K(6)])
-
-    def test_both_directions_of_a_label(self):
-        self.assertEqual(bad_ones([("never", E(9), E(9))]), [E(8), E(9)])
-        self.assertEqual(bad_ones([("never", E(2), E(2))]), [E(2), E(3)])
-        self.assertEqual(bad_ones([("neverrole", 8, 8), ("neverrole", 3, 3)]), [E(2), E(3), E(8), E(9)])
-
-    def test_what_leads_to_bad_ones(self):
-        rules = [("never", K(3), K(3)), ("sub", E(5), K(3)), ("sub", K(6), E(4)), ("role", 9, 5), ("sub", K(3), K(2))]
-        self.assertEqual(bad_ones(rules), [K(3), K(6), E(4), E(5), E(8), E(9)])
-
-    def test_two_of_which_one_does_not_follow(self):
-        self.assertEqual(bad_ones([("never", K(1), K(2)), ("sub", K(3), K(1)), ("neverrole", 2, 4)]), [])
-        self.assertEqual(bad_ones([("neverrole", 2, 4), ("role", 3, 5)]), [E(2), E(3)])
-        self.assertEqual(bad_ones([("neverrole", 2, 4), ("sub", E(2), E(4))]), [])
-
-
-class TestWrongNodes(unittest.TestCase):
-    """Which nodes are wrong: who and is tell only whether there's one."""
-
-    def test_by_their_own_kinds(self):
-        self.assertEqual(wrong_nodes([("kind", 3, 1), ("kind", 5, 2)], [("never", K(1), K(1))]), [3])
-        self.assertEqual(wrong_nodes([("kind", 3, 1), ("kind", 3, 2)], [("never", K(1), K(2))]), [3])
-        self.assertEqual(wrong_nodes([("kind", 3, 1), ("kind", 5, 2)], [("never", K(1), K(2))]), [])
-
-    def test_both_ends_of_an_edge_in_a_bad_direction(self):
-        self.assertEqual(wrong_nodes([("edge", 7, 1, 2)], [("never", E(2), E(2))]), [2, 7])
-        self.assertEqual(wrong_nodes([("edge", 7, 1, 2)], [("neverrole", 2, 2)]), [2, 7])
-        self.assertEqual(wrong_nodes([("edge", 7, 1, 2)], [("role", 2, 4), ("neverrole", 4, 4)]), [2, 7])
-
-    def test_both_ends_of_edges_that_do_not_go_together(self):
-        told = [("edge", 7, 1, 2), ("edge", 7, 2, 2), ("edge", 1, 1, 2)]
-        for r, s in ((2, 4), (4, 2), (3, 5), (5, 3)):
-            self.assertEqual(wrong_nodes(told, [("neverrole", r, s)]), [2, 7])
-
-    def test_only_the_end_that_is_both(self):
-        told = [("edge", 7, 1, 2), ("edge", 7, 2, 3)]
-        self.assertEqual(wrong_nodes(told, [("never", E(2), E(4))]), [7])
 
 
 if __name__ == "__main__":

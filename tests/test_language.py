@@ -83,6 +83,30 @@ class TestForms(unittest.TestCase):
                 self.assertRegex(node.module, r"\Awhatmustbe\.", place)
                 self.assertNotIn("*", [name.name for name in node.names], place)
 
+    def test_no_local_is_called_like_an_import_or_a_class(self):
+        for path in files():
+            tree = ast.parse(path.read_text())
+            taken = {name.name for node in tree.body if isinstance(node, ast.ImportFrom) for name in node.names}
+            taken |= {node.name for node in tree.body if isinstance(node, ast.ClassDef)}
+            for node in ast.walk(tree):
+                if isinstance(node, ast.arg):
+                    self.assertNotIn(node.arg, taken, path.name)
+                if isinstance(node, ast.Name) and isinstance(node.ctx, ast.Store):
+                    self.assertNotIn(node.id, taken, path.name)
+
+    def test_each_name_once(self):
+        for path in files():
+            names = []
+            for node in ast.parse(path.read_text()).body:
+                if isinstance(node, ast.ImportFrom):
+                    names += [name.name for name in node.names]
+                if isinstance(node, (ast.FunctionDef, ast.ClassDef)):
+                    names.append(node.name)
+                if isinstance(node, ast.Assign):
+                    names.append(node.targets[0].id)
+            self.assertEqual(sorted(set(names)), sorted(names), path.name)
+            self.assertEqual("answers" in names, path.name == "desk.py")
+
     def test_names(self):
         for place, node in walked():
             if isinstance(node, ast.Name):

@@ -65,6 +65,14 @@ def backward(a):
     return 2 * a + 1
 
 
+def label(r):
+    return r // 2
+
+
+def is_forward(r):
+    return r % 2 == 0
+
+
 def turned(r):
     """The other direction of the same label."""
-    return r + 1 if r % 2 == 0 else r - 1
+    return r + 1 if is_forward(r) else r - 1
